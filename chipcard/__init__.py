@@ -1,0 +1,1 @@
+"""A chip card: commands in, answers out."""
