@@ -33,6 +33,11 @@ def place_of(request):
     return request.first * 256 + request.second
 
 
+def is_behind_end(file, place):
+    # The end itself is still a place of the file, though no byte is there.
+    return place > file.size
+
+
 def read_bytes(card, request):
     status = aim_at_bytes(card, request, False)
     if status != WELL:
@@ -41,7 +46,7 @@ def read_bytes(card, request):
         return only(WRONG_LENGTH)
     file = card.chosen_file()
     place = place_of(request)
-    if place >= file.size:
+    if is_behind_end(file, place):
         return only(BEHIND_END)
     told = file.content[place:place + request.asked]
     if len(told) < request.asked and request.asked != ALL:
@@ -57,7 +62,7 @@ def write_bytes(card, request):
         return only(WRONG_LENGTH)
     file = card.chosen_file()
     place = place_of(request)
-    if place >= file.size:
+    if is_behind_end(file, place):
         return only(BEHIND_END)
     end = place + len(request.data)
     if end > file.size:

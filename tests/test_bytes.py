@@ -37,14 +37,34 @@ class Reading(CardCase):
 
     def test_behind_the_end(self):
         for asked in (1, 10, 255, 0):
-            self.says(FILLED, read(10, asked), 0x6B00)
             self.says(FILLED, read(11, asked), 0x6B00)
+            self.says(FILLED, read(12, asked), 0x6B00)
             self.says(FILLED, read(0x7FFF, asked), 0x6B00)
             self.says(FILLED, read(0x0100, asked), 0x6B00)
 
+    def test_right_at_the_end(self):
+        for asked in (1, 2, 10, 255):
+            self.says(FILLED, read(10, asked), 0x6282)
+        self.says(FILLED, read(10, 0), OK)
+        # The length is looked at ahead of the place, here too.
+        self.says(FILLED, command(0xB0, 0, 10), 0x6700)
+
+    def test_right_at_the_end_of_many_bytes(self):
+        for size in (1, 255, 256, 257, 16320):
+            before = self.well(make_bytes(1, size))
+            self.says(before, read(size - 1, 1), OK, [0])
+            self.says(before, read(size, 1), 0x6282)
+            self.says(before, read(size, 0), OK)
+            self.says(before, read(size + 1, 1), 0x6B00)
+            self.says(before, read(size + 1, 0), 0x6B00)
+
     def test_no_bytes_at_all(self):
-        self.says([make_bytes(1, 0)], read(0, 0), 0x6B00)
-        self.says([make_bytes(1, 0)], read(0, 1), 0x6B00)
+        before = self.well(make_bytes(1, 0))
+        self.says(before, read(0, 0), OK)
+        self.says(before, read(0, 1), 0x6282)
+        self.says(before, read(0, 255), 0x6282)
+        self.says(before, read(1, 0), 0x6B00)
+        self.says(before, read(1, 1), 0x6B00)
 
     def test_place_of_two_bytes(self):
         before = [make_bytes(1, 0x1300), write(0x1234, NEW)]
@@ -52,7 +72,8 @@ class Reading(CardCase):
         self.says(before, read(0x1233, 3), OK, [0, 1, 2])
         self.says(before, read(0x12FF, 1), OK, [0])
         self.says(before, read(0x12FF, 2), 0x6282, [0])
-        self.says(before, read(0x1300, 1), 0x6B00)
+        self.says(before, read(0x1300, 1), 0x6282)
+        self.says(before, read(0x1301, 1), 0x6B00)
 
     def test_lengths(self):
         self.says(FILLED, command(0xB0, 0, 0), 0x6700)
@@ -83,10 +104,25 @@ class Writing(CardCase):
             self.changes_nothing(FILLED, write(place, data), 0x6A84, [read(0, 0)])
 
     def test_behind_the_end(self):
-        for place in (10, 11, 0x100, 0x7FFF):
+        for place in (11, 12, 0x100, 0x7FFF):
             self.changes_nothing(FILLED, write(place, [1]), 0x6B00, [read(0, 0)])
             self.says(FILLED, write(place, [1] * 255), 0x6B00)
-        self.says([make_bytes(1, 0)], write(0, [1]), 0x6B00)
+
+    def test_right_at_the_end(self):
+        for data in ([1], [1, 2], [1] * 255):
+            self.changes_nothing(FILLED, write(10, data), 0x6A84, [read(0, 0)])
+        for size in (1, 255, 256, 257, 16320):
+            before = self.well(make_bytes(1, size), write(size - 1, [1]))
+            self.changes_nothing(before, write(size, [1]), 0x6A84, [read(size - 1, 0)])
+            self.changes_nothing(before, write(size + 1, [1]), 0x6B00, [read(size - 1, 0)])
+        # The length is looked at ahead of the place, here too.
+        self.says(FILLED, command(0xD6, 0, 10), 0x6700)
+        self.says(FILLED, command(0xD6, 0, 10, [1], 0), 0x6700)
+
+    def test_no_bytes_at_all(self):
+        before = self.well(make_bytes(1, 0))
+        self.changes_nothing(before, write(0, [1]), 0x6A84, [read(0, 0), read(1, 0)])
+        self.changes_nothing(before, write(1, [1]), 0x6B00, [read(0, 0), read(1, 0)])
 
     def test_lengths(self):
         for step in (command(0xD6), command(0xD6, asked=1), command(0xD6, 0, 0, [1], 1), command(0xD6, 0, 0, [1], 0)):
@@ -118,11 +154,15 @@ class Meant(CardCase):
         self.says(before, read_short(1, 0), OK, [1, 2, 3])
         self.says(before, read_short(1, 2, 1), OK, [3])
         self.says(before, read_short(1, 2, 2), 0x6282, [3])
-        self.says(before, read_short(1, 3), 0x6B00)
+        self.says(before, read_short(1, 3), OK)
+        self.says(before, read_short(1, 3, 1), 0x6282)
+        self.says(before, read_short(1, 4), 0x6B00)
+        self.says(before, read_short(1, 4, 1), 0x6B00)
         self.says(before, read_short(30, 250, 8), OK, NEW)
         self.says(before, read_short(30, 255, 3), OK, [6, 7, 8])
         self.says(before + [write_short(1, 1, [9])], read_short(1, 0), OK, [1, 9, 3])
-        self.says(before, write_short(1, 3, [9]), 0x6B00)
+        self.says(before, write_short(1, 3, [9]), 0x6A84)
+        self.says(before, write_short(1, 4, [9]), 0x6B00)
         self.says(before, write_short(1, 2, [9, 9]), 0x6A84)
         self.says(before + [write_short(30, 255, [7])], read_short(30, 254, 3), OK, [5, 7, 7])
 
@@ -155,8 +195,9 @@ class Meant(CardCase):
 
     def test_chosen_though_it_is_refused(self):
         before = self.well(make_bytes(1, 3, 1), make_bytes(2, 5, 2))
-        for step, status in ((read_short(1, 3), 0x6B00), (write_short(1, 3, [1]), 0x6B00),
-                             (write_short(1, 0, [1] * 4), 0x6A84), (command(0xB0, 0x81, 0), 0x6700),
+        for step, status in ((read_short(1, 4), 0x6B00), (write_short(1, 4, [1]), 0x6B00),
+                             (write_short(1, 3, [1]), 0x6A84), (write_short(1, 0, [1] * 4), 0x6A84),
+                             (read_short(1, 3, 1), 0x6282), (command(0xB0, 0x81, 0), 0x6700),
                              (command(0xD6, 0x81, 0), 0x6700), (command(0xB0, 0x81, 0, [1], 1), 0x6700)):
             self.says(before, step, status)
             self.says(before + [step], read(0, 0), OK, [0] * 3)
@@ -199,4 +240,4 @@ class Order(CardCase):
         before = self.well(make_bytes(1, 3, 1), make_bytes(2, 4, 2, (15, 0)), ACTIVATE, choose(1))
         self.says(before, read_short(2, 0), 0x6982)
         self.says(before + [read_short(2, 0)], write(3, [1]), OK)
-        self.says(before, write(3, [1]), 0x6B00)
+        self.says(before, write(3, [1]), 0x6A84)

@@ -328,7 +328,9 @@ class Room(CardCase):
     def test_all_of_it_can_be_used(self):
         before = self.well(make_bytes(1, 16320), write(16319, [5]))
         self.says(before, read(16319, 1), OK, [5])
-        self.says(before, read(16320, 1), 0x6B00)
+        self.says(before, read(16320, 1), 0x6282)
+        self.says(before, read(16321, 1), 0x6B00)
+        self.says(before, write(16320, [5]), 0x6A84)
 
     def test_several(self):
         before = self.well(make_bytes(1, 10000), make_folder(2, "abc"), make_records(3, 10, 20))
